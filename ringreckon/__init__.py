@@ -1,0 +1,1 @@
+"""A reckoner of eight registers: see ringreckon.reckoner."""
