@@ -1,7 +1,7 @@
 """Numbers of 80 bits, each kept as one whole number: 64 bits, above them 15 of exponent, then the sign."""
 
 from ringreckon.codes import TOWARDS_ZERO
-from ringreckon.rounding import Exact, lead_of, units_in
+from ringreckon.rounding import Exact, Form, exact_whole, lead_of, units_in
 
 # Exponent 1 with no bit set: no number is so.
 EMPTY = 0x00010000000000000000
@@ -12,6 +12,11 @@ BYTES = 10
 TOP_EXPONENT = 32767
 BIAS = 16383
 LEAST_LEAD = -16382
+LIMIT = 16384
+
+# How many bits a number is rounded to, by the length.
+PLACES = (24, 53, 64)
+LONGEST = 2
 
 
 def sign_of(number):
@@ -29,6 +34,23 @@ def bits_of(number):
 def with_sign(sign, number):
     """A number without a sign, given one."""
     return (sign << 79) + number
+
+
+def without_sign(number):
+    return number - with_sign(sign_of(number), 0)
+
+
+def opposite(number):
+    """The number with the other sign."""
+    return with_sign(1 - sign_of(number), without_sign(number))
+
+
+def is_zero(number):
+    return without_sign(number) == 0
+
+
+def is_small(number):
+    return exponent_of(number) == 0 and bits_of(number) > 0
 
 
 def is_infinite(number):
@@ -63,6 +85,11 @@ def to_row(number):
     return row
 
 
+def number_form(length):
+    """What a number is rounded to, by the length."""
+    return Form(PLACES[length], LEAST_LEAD, LIMIT)
+
+
 def exact_of(number):
     """The value of a finite number."""
     # Exponent 0 stands for the same power as exponent 1.
@@ -83,4 +110,4 @@ def number_of(value):
 
 def number_of_whole(n):
     """The number for a whole number of at most 64 bits."""
-    return number_of(Exact(1 if n < 0 else 0, abs(n), 0))
+    return number_of(exact_whole(n, 0))

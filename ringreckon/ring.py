@@ -1,10 +1,9 @@
 """What a reckoner keeps: eight registers in a ring, the way, the length and the flags."""
 
 from ringreckon.codes import NEAREST
-from ringreckon.number import EMPTY
+from ringreckon.number import EMPTY, LONGEST
 
 REGISTERS = 8
-LONGEST = 2
 
 
 class Ring:
@@ -41,3 +40,8 @@ class Ring:
         number = self.registers[0]
         self.registers[0] = self.registers[i]
         self.registers[i] = number
+
+    def turn(self, steps):
+        """Each k becomes what k + steps, round the ring, was."""
+        start = steps % REGISTERS
+        self.registers = self.registers[start:] + self.registers[:start]

@@ -29,6 +29,11 @@ class Rounded:
         self.flags = flags
 
 
+def exact_whole(n, power):
+    """A whole number by 2^power."""
+    return Exact(1 if n < 0 else 0, abs(n), power)
+
+
 def lead_of(value):
     """The E with 2^E no more than the value without its sign, and 2^(E + 1) more; the value is not 0."""
     return value.power + value.size.bit_length() - 1
@@ -46,16 +51,25 @@ def grows(sign, whole, rest, one, way):
     return way == outward(sign)
 
 
+def made_whole(sign, size, one, way):
+    """Size / one, both without the sign, made whole by the way."""
+    whole = size // one
+    rest = size % one
+    if rest > 0 and grows(sign, whole, rest, one, way):
+        return whole + 1
+    return whole
+
+
+def size_by(value, unit):
+    """How many times 2^unit the value has, without its sign; unit is not above its power."""
+    return value.size << (value.power - unit)
+
+
 def units_in(value, unit, way):
     """How many times 2^unit the value has, without its sign, made whole by the way."""
     if value.power >= unit:
-        return value.size << (value.power - unit)
-    one = 1 << (unit - value.power)
-    whole = value.size // one
-    rest = value.size % one
-    if rest > 0 and grows(value.sign, whole, rest, one, way):
-        return whole + 1
-    return whole
+        return size_by(value, unit)
+    return made_whole(value.sign, value.size, 1 << (unit - value.power), way)
 
 
 def to_multiple(value, unit, way):
@@ -66,7 +80,7 @@ def to_multiple(value, unit, way):
 def same_size(one, other):
     """Whether two values are alike without their signs."""
     unit = min(one.power, other.power)
-    return one.size << (one.power - unit) == other.size << (other.power - unit)
+    return size_by(one, unit) == size_by(other, unit)
 
 
 def is_below(value, power):

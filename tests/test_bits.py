@@ -5,17 +5,14 @@ import struct
 import unittest
 from fractions import Fraction
 
-from helper import (ALL_BITS, BITS, NONE_ROW, STORE, TOLD, TOP_BIT, check_refused, control, double, flags, load, row_of,
-                    run, told_of, whole, whole_row, wholes)
+from helper import (ALL_BITS, BITS, MIRRORED, NONE_ROW, STORE, TOLD, TOP_BIT, check_refused, control, double, flags,
+                    load, row_of, run, told_of, whole, whole_row, wholes)
 
 INFINITE = 0x7FF0000000000000
 GREATEST = 0x7FEFFFFFFFFFFFFF
 LEAST_FULL = 0x0010000000000000
 MINUS = 1 << 63
 ONE = 0x3FF0000000000000
-
-# The way of the same outcome when the sign is the other one.
-MIRRORED = (0, 2, 1, 3)
 
 
 def bits_of_float(value):
@@ -125,7 +122,7 @@ class Bits(unittest.TestCase):
 
     def test_just_below_the_full_ones(self):
         full = LEAST_FULL
-        # One place more than a double has there, and it stays below with all its places: too small, though it rounds up.
+        # One place more than a double has there, and it stays below with all its places: too small, though rounded up.
         self.check_ways(16383 - 1023, ALL_BITS - 0x7FF, [full, full - 1, full, full - 1], [48] * 4)
         # Nearer than that, it reaches 2^-1022 with all its places: not too small where it is rounded up.
         self.check_ways(16383 - 1023, ALL_BITS, [full, full - 1, full, full - 1], [32, 48, 32, 48])

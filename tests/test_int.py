@@ -1,18 +1,12 @@
 """int (point 5)."""
 
-import math
 import unittest
 from fractions import Fraction
 
-from helper import (ALL_BITS, ENDS, NONE_ROW, TOLD, TOP_BIT, check_refused, control, double, flags, load, row_of, run,
-                    told_of, to_int, whole, whole_row, wholes)
+from helper import (ALL_BITS, ENDS, NONE_ROW, TOLD, TOP_BIT, check_refused, control, double, flags, load, made_whole,
+                    row_of, run, to_int, told_of, whole, whole_row, wholes)
 
 NOTHING = [0, 1 << 63]
-
-
-def made_whole(value, way):
-    """A fraction made whole; Python's round takes the even one of two as near."""
-    return (round(value), math.floor(value), math.ceil(value), math.trunc(value))[way]
 
 
 class Int(unittest.TestCase):

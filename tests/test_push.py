@@ -5,7 +5,7 @@ import unittest
 from fractions import Fraction
 
 from helper import (ALL_BITS, NONE_ROW, STORE, TOLD, TOP_BIT, check_refused, control, double, flags, last, load,
-                    row_of, run, told_of, whole, whole_row, wholes)
+                    row_of, run, told_of, value_of_row, whole, whole_row, wholes)
 
 FULL = wholes(*range(1, 9))
 
@@ -20,14 +20,6 @@ REFUSED = [
     (1, 0), (1, 1), (1, TOP_BIT - 1), (2, 1 << 62), (16383, 0), (32766, TOP_BIT - 1),
     (32767, 0), (32767, 1), (32767, 1 << 62), (32767, TOP_BIT - 1),
 ]
-
-
-def value_of_row(row):
-    """The value of a finite number by its ten bytes, as a fraction."""
-    number = int.from_bytes(bytes(row), "little")
-    exponent = max(number >> 64 & 32767, 1)
-    size = Fraction(number & ALL_BITS) * Fraction(2) ** (exponent - 16383 - 63)
-    return -size if number >> 79 else size
 
 
 class Load(unittest.TestCase):

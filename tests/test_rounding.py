@@ -1,4 +1,4 @@
-"""Rounding and the form of numbers, straight: what the calls build on, also where none of them leads yet."""
+"""Rounding and the form of numbers, straight: what the calls build on."""
 
 import unittest
 

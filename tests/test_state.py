@@ -1,16 +1,12 @@
-"""begin, control, flags, told, swap, and the ring that pushes and pops go round (points 1, 2, 6)."""
+"""begin, control, flags, told, swap, turn, free, copy, and the ring that all go round (points 1, 2, 3, 6)."""
 
 import unittest
 
-from ringreckon.codes import BAD_ARGUMENT, IS_EMPTY, IS_FULL
-from ringreckon.number import EMPTY
-from ringreckon.reckoner import call_copy, call_swap
-from ringreckon.ring import Ring
-
-from helper import (BEGIN, BITS, EMPTY_ROW, ENDS, STORE, TOLD, check_refused, control, copy, double, flags, last, run,
-                    swap, to_int, told_of, whole_row, wholes)
+from helper import (BEGIN, BITS, EMPTY_ROW, ENDS, STORE, TOLD, check_refused, control, copy, double, flags, free, last,
+                    run, swap, to_int, told_of, turn, whole_row, wholes)
 
 SMALL_DOUBLE = 1
+FULL = range(1, 9)
 
 
 class Begin(unittest.TestCase):
@@ -22,7 +18,7 @@ class Begin(unittest.TestCase):
         self.assertEqual(got[-3:], [[0], told_of(0, 2, 0, []), [0]])
 
     def test_twice_and_of_a_full_ring(self):
-        self.assertEqual(run(*wholes(1, 2, 3, 4, 5, 6, 7, 8), BEGIN, BEGIN, TOLD)[-3:], [[0], [0], told_of(0, 2, 0, [])])
+        self.assertEqual(run(*wholes(*FULL), BEGIN, BEGIN, TOLD)[-3:], [[0], [0], told_of(0, 2, 0, [])])
 
 
 class Control(unittest.TestCase):
@@ -62,7 +58,7 @@ class Flags(unittest.TestCase):
         self.assertEqual(got[6][3], 35)
 
     def test_same_flag_twice_counts_once(self):
-        self.assertEqual(last(double(1), double(1), double(3), flags()), [2])
+        self.assertEqual(run(double(1), flags(), double(1), flags(), double(3), flags())[1::2], [[2], [2], [2]])
 
     def test_clearing_leaves_the_rest(self):
         self.assertEqual(last(control(3, 1), double(SMALL_DOUBLE), STORE, *wholes(6), flags(1), TOLD),
@@ -134,10 +130,88 @@ class Swap(unittest.TestCase):
             check_refused(self, wholes(1, 2), swap(i), -4)
 
     def test_empty_top_is_refused(self):
-        ring = Ring()
-        ring.registers = [EMPTY, 5, EMPTY, EMPTY, EMPTY, EMPTY, EMPTY, EMPTY]
-        self.assertEqual(call_swap(ring, [1]), [IS_EMPTY])
-        self.assertEqual(ring.registers[:2], [EMPTY, 5])
+        for i in range(8):
+            check_refused(self, wholes(*FULL) + [free(0)], swap(i), -4)
+            check_refused(self, wholes(*FULL) + [free(i)], swap(i), -4)
+
+    def test_over_a_gap(self):
+        self.assertEqual(last(*wholes(1, 2, 3), free(1), swap(2), TOLD),
+                         told_of(0, 2, 0, [whole_row(1), EMPTY_ROW, whole_row(3)]))
+
+
+class Turn(unittest.TestCase):
+    def check(self, steps, numbers):
+        """The ring that has these numbers, None for what is empty, is turned."""
+        calls = wholes(*FULL) + [free(k) for k in range(8) if numbers[k] is None]
+        rows = [EMPTY_ROW if n is None else whole_row(n) for n in numbers]
+        turned = [rows[(k + steps) % 8] for k in range(8)]
+        self.assertEqual(run(*calls, turn(steps), TOLD)[-2:], [[0], told_of(0, 2, 0, turned)], (steps, numbers))
+
+    def test_every_step(self):
+        for steps in range(-7, 8):
+            self.check(steps, [8, 7, 6, 5, 4, 3, 2, 1])
+            self.check(steps, [8, None, 6, None, None, 3, 2, None])
+            self.check(steps, [None, None, None, 5, 4, None, None, 1])
+            self.check(steps, [None] * 8)
+
+    def test_by_one(self):
+        self.assertEqual(last(*wholes(1, 2, 3), turn(1), TOLD),
+                         told_of(0, 2, 0, [whole_row(2), whole_row(1)] + [EMPTY_ROW] * 5 + [whole_row(3)]))
+        self.assertEqual(last(*wholes(1, 2, 3), turn(-1), TOLD),
+                         told_of(0, 2, 0, [EMPTY_ROW, whole_row(3), whole_row(2), whole_row(1)]))
+
+    def test_there_and_back(self):
+        for steps in range(-7, 8):
+            self.assertEqual(last(*wholes(1, 2, 3), turn(steps), turn(-steps), TOLD), last(*wholes(1, 2, 3), TOLD))
+
+    def test_leaves_the_rest(self):
+        self.assertEqual(last(control(1, 0), double(SMALL_DOUBLE), free(0), *wholes(5), turn(-3), TOLD),
+                         told_of(1, 0, 2, [EMPTY_ROW] * 3 + [whole_row(5)]))
+
+    def test_pushes_and_pops_behind_it(self):
+        # The top, taken out of its place, leaves the last one taken, so that nothing can be pushed.
+        check_refused(self, wholes(1, 2) + [turn(1)], [5, 3], -5)
+        self.assertEqual(last(*wholes(1, 2), turn(-2), *wholes(3), TOLD),
+                         told_of(0, 2, 0, [whole_row(3), EMPTY_ROW, EMPTY_ROW, whole_row(2), whole_row(1)]))
+        self.assertEqual(last(*wholes(1, 2, 3), turn(1), STORE, TOLD),
+                         told_of(0, 2, 0, [whole_row(1)] + [EMPTY_ROW] * 5 + [whole_row(3)]))
+
+    def test_refusals(self):
+        for wrong in (-9, -8, 8, 9) + ENDS:
+            check_refused(self, wholes(1, 2), turn(wrong), -2)
+            check_refused(self, [], turn(wrong), -2)
+
+
+class Free(unittest.TestCase):
+    def test_each_of_a_full_ring(self):
+        for i in range(8):
+            rows = [whole_row(n) for n in reversed(FULL)]
+            rows[i] = EMPTY_ROW
+            self.assertEqual(run(*wholes(*FULL), free(i), TOLD)[-2:], [[0], told_of(0, 2, 0, rows)])
+
+    def test_what_is_empty_already(self):
+        for i in range(8):
+            self.assertEqual(run(free(i), TOLD), [[0], told_of(0, 2, 0, [])])
+            calls = wholes(*FULL) + [free(2), free(5), free(i)]
+            rows = [EMPTY_ROW if 8 - k in (6, 3) or k == i else whole_row(8 - k) for k in range(8)]
+            self.assertEqual(run(*calls, free(i), TOLD)[-2:], [[0], told_of(0, 2, 0, rows)])
+
+    def test_leaves_the_rest(self):
+        self.assertEqual(last(control(2, 1), double(SMALL_DOUBLE), *wholes(5), free(1), TOLD),
+                         told_of(2, 1, 2, [whole_row(5)]))
+
+    def test_makes_room(self):
+        self.assertEqual(run(*wholes(*FULL), free(7), *wholes(9), TOLD)[-2:],
+                         [[0], told_of(0, 2, 0, [whole_row(n) for n in range(9, 1, -1)])])
+        check_refused(self, wholes(*FULL) + [free(6)], [5, 9], -5)
+
+    def test_the_top_stays_where_it_is(self):
+        check_refused(self, wholes(1, 2) + [free(0)], STORE, -4)
+
+    def test_refusals(self):
+        for wrong in (-1, 8, -8) + ENDS:
+            check_refused(self, wholes(1, 2), free(wrong), -2)
+            check_refused(self, [], free(wrong), -2)
 
 
 class Copy(unittest.TestCase):
@@ -161,13 +235,17 @@ class Copy(unittest.TestCase):
         check_refused(self, wholes(1, 2), copy(2), -4)
 
     def test_empty_counts_before_full(self):
-        # No list of calls so far leaves the last one taken and another empty, so the ring is set by hand.
-        ring = Ring()
-        ring.registers = [1, EMPTY, 3, 4, 5, 6, 7, 8]
-        self.assertEqual(call_copy(ring, [1]), [IS_EMPTY])
-        self.assertEqual(call_copy(ring, [2]), [IS_FULL])
-        self.assertEqual(call_copy(ring, [8]), [BAD_ARGUMENT])
-        self.assertEqual(ring.registers, [1, EMPTY, 3, 4, 5, 6, 7, 8])
+        for i in range(7):
+            before = wholes(*FULL) + [free(i)]
+            check_refused(self, before, copy(i), -4)
+            check_refused(self, before, copy(i + 1), -5)
+            check_refused(self, before, copy(8), -2)
+        check_refused(self, wholes(1) + [turn(1)], copy(0), -4)
+        check_refused(self, wholes(1) + [turn(1)], copy(7), -5)
+
+    def test_over_a_gap(self):
+        self.assertEqual(last(*wholes(1, 2, 3), free(0), copy(2), TOLD),
+                         told_of(0, 2, 0, [whole_row(1), EMPTY_ROW, whole_row(2), whole_row(1)]))
 
 
 if __name__ == "__main__":
